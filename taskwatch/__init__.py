@@ -1,0 +1,1 @@
+"""A station's watcher: tasks that report, and starts after a cut."""
