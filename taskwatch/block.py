@@ -10,7 +10,9 @@ DOOMED_AT = 19
 CRUMB_COUNT_AT = 20
 CRUMBS_AT = 21
 CRUMB_SIZE = 3
+PLACE_SIZE = 2
 START_SIZE = 4
+SUM_SIZE = 4
 CAUSES = 4
 
 MOST_CRUMBS = 8
@@ -82,6 +84,15 @@ def number_from(octets):
     return number
 
 
+def octets_from(number, size):
+    octets = []
+    rest = number
+    while len(octets) < size:
+        octets.append(rest % 256)
+        rest = rest // 256
+    return octets
+
+
 def crumbs_end(octets):
     return CRUMBS_AT + CRUMB_SIZE * octets[CRUMB_COUNT_AT]
 
@@ -114,3 +125,15 @@ def read_block(octets):
     for at in range(CRUMBS_AT, crumbs_end(octets), CRUMB_SIZE):
         crumbs.append((octets[at], number_from(octets[at + 1:at + CRUMB_SIZE])))
     return Kept(starts, octets[QUICK_AT], octets[DOOMED_AT], crumbs)
+
+
+def write_block(kept):
+    octets = [FIRST_BYTE, SECOND_BYTE]
+    for number in kept.starts:
+        octets.extend(octets_from(number, START_SIZE))
+    octets.extend([kept.quick, kept.doomed, len(kept.crumbs)])
+    for crumb in kept.crumbs:
+        octets.append(crumb[0])
+        octets.extend(octets_from(crumb[1], PLACE_SIZE))
+    octets.extend([0] * (SUMMED_SIZE - len(octets)))
+    return octets + octets_from(checksum(octets), SUM_SIZE)

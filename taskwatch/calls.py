@@ -5,6 +5,11 @@ TASK = 1
 REPORT = 2
 TICK = 3
 ASK = 4
+HALT = 5
+KEEP = 6
+SAID = 7
+LOOK = 8
+LIST = 9
 
 # The whole numbers of each call, by the call's number.
 NAMES = {
@@ -13,6 +18,11 @@ NAMES = {
     2: ("k", "place", "now"),
     3: ("now",),
     4: ("k", "now"),
+    5: ("k", "now"),
+    6: (),
+    7: (),
+    8: ("k",),
+    9: (),
 }
 
 RANGES = {

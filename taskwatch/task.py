@@ -41,6 +41,10 @@ class Task:
     def stand(self):
         self.enter(STANDS, 0)
 
+    def halt(self):
+        self.stand()
+        self.late = False
+
     def is_overdue(self, now):
         return self.phase == RUNS and self.heard + self.limit <= now
 
@@ -95,3 +99,9 @@ class Task:
         self.late = False
         self.wait = self.first
         self.times = []
+
+    def shown(self, now):
+        # A time that is no longer of late stays here till the watcher stops the task, so it is left out on the spot.
+        times = self.times_of_late(now)
+        late = 1 if self.late else 0
+        return [self.phase, self.moment, self.heard, self.place, late, self.wait, len(times)] + times

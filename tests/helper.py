@@ -1,7 +1,8 @@
 """Calls and blocks for the tests, built without the package's own code."""
 
-from taskwatch.calls import split_calls
-from taskwatch.station import Station, answer_to, answers
+from collections import namedtuple
+
+from taskwatch.station import answers
 
 LEAST_NUMBER = -9223372036854775808
 MOST_NUMBER = 9223372036854775807
@@ -10,6 +11,10 @@ CALM_AFTER = 600000000
 
 FED = [0, 1, 4]
 NOT_FED = [0, 0]
+
+Kept = namedtuple("Kept", "starts quick doomed crumbs")
+Said = namedtuple("Said", "cause known doubt starts quick doomed crumbs")
+Seen = namedtuple("Seen", "phase moment heard place late wait times")
 
 
 def turned_round(number, bits):
@@ -68,6 +73,26 @@ def ask(k, now):
     return [4, k, now]
 
 
+def halt(k, now):
+    return [5, k, now]
+
+
+def keep():
+    return [6]
+
+
+def said():
+    return [7]
+
+
+def look(k):
+    return [8, k]
+
+
+def list_tasks():
+    return [9]
+
+
 def joined(calls):
     return [number for call in calls for number in call]
 
@@ -88,9 +113,38 @@ def last(*calls):
     return answered(*calls)[-1]
 
 
-def station_after(*calls):
-    """The station itself, for what no call tells."""
-    station = Station()
-    for call in split_calls(joined(calls)):
-        answer_to(station, call)
-    return station
+def counted(numbers):
+    """The numbers behind a count, which must be just as many as it tells."""
+    assert numbers[0] == len(numbers) - 1, numbers
+    return numbers[1:]
+
+
+def pairs(numbers):
+    return list(zip(numbers[::2], numbers[1::2], strict=True))
+
+
+def block_after(*calls):
+    answer = last(*calls, keep())
+    assert answer[0] == 0 and len(answer) == 50, answer
+    return answer[1:]
+
+
+def kept_after(*calls):
+    """What the block tells that keep answers behind these calls; it must be just the block of that."""
+    octets = block_after(*calls)
+    crumbs = [(octets[at], octets[at + 1] + 256 * octets[at + 2]) for at in range(21, 21 + 3 * octets[20], 3)]
+    starts = [int.from_bytes(octets[at:at + 4], "little") for at in range(2, 18, 4)]
+    assert octets == block(starts, octets[18], octets[19], crumbs), octets
+    return Kept(starts, octets[18], octets[19], crumbs)
+
+
+def said_after(*calls):
+    answer = last(*calls, said())
+    assert answer[0] == 0 and answer[10] == len(answer[11:]) // 2, answer
+    return Said(*answer[1:4], answer[4:8], *answer[8:10], pairs(answer[11:]))
+
+
+def seen_after(k, *calls):
+    answer = last(*calls, look(k))
+    assert answer[0] == 0, answer
+    return Seen(*answer[1:7], counted(answer[7:]))

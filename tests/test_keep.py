@@ -1,30 +1,81 @@
-"""What is kept, and what else none of the calls so far tells: read from the station itself."""
-
 import unittest
 
-from taskwatch.block import checksum, is_block, read_block
-from tests.helper import CALM_AFTER, ask, begin, block, report, station_after, task, tick
+from tests.helper import (CALM_AFTER, Kept, answered, ask, begin, block, block_after, crc, halt, keep, kept_after, last,
+                          report, said_after, task, tick)
 
 MOST_STARTS = 4294967295
 
 
-def kept_after(*calls):
-    return station_after(*calls).kept
+class Keep(unittest.TestCase):
+    def test_the_block_written_out(self):
+        octets = [87, 1] + [0] * 43
+        octets[2] = 1
+        self.assertEqual(last(begin(0), keep()), [0, *octets, *[crc(octets) >> shift & 255 for shift in (0, 8, 16, 24)]])
+
+    def test_every_number_in_its_place(self):
+        before = block((0x01020304, 0x11121314, 0x21222324, 0x31323333), 2, 16, ((4, 4),))
+        calls = [begin(0, 3, before), task(14, 0, rank=2), task(15, 0), tick(0), report(15, 0x4142, 0),
+                 report(14, 0x5152, 0), tick(100)]
+        octets = block_after(*calls)
+        self.assertEqual(octets[:27], [87, 1, 4, 3, 2, 1, 0x14, 0x13, 0x12, 0x11, 0x24, 0x23, 0x22, 0x21,
+                                       0x34, 0x33, 0x32, 0x31, 2, 15, 2, 15, 0x42, 0x41, 14, 0x52, 0x51])
+        self.assertEqual(octets[27:45], [0] * 18)
+
+    def test_it_changes_nothing(self):
+        calls = [begin(0), task(0, 0), tick(0), report(0, 5, 0)]
+        once = answered(*calls, tick(100), report(0, 5, 100))
+        self.assertEqual(answered(*calls, keep(), keep(), tick(100), keep(), report(0, 5, 100))[6::2], once[4:])
+        self.assertEqual(block_after(*calls, keep(), keep()), block_after(*calls))
+
+    def test_now_stays(self):
+        self.assertEqual(answered(begin(7), keep(), tick(6), tick(7))[2:], [[-4], [0, 1, 4]])
+
+    def test_not_begun(self):
+        self.assertEqual(answered(keep(), begin(0, 4), keep(), begin(-1), keep()), [[-4], [-1], [-4], [-1], [-4]])
+
+    def test_behind_a_refused_begin(self):
+        self.assertEqual(kept_after(begin(0, 2), begin(0, 4, block((9, 9, 9, 9)))).starts, [0, 0, 1, 0])
 
 
-class ReadBlock(unittest.TestCase):
-    def test_known_sums(self):
-        self.assertEqual(checksum(list(b"123456789")), 0xE3069283)
-        self.assertEqual(checksum([0] * 32), 0x8A9136AA)
-        self.assertEqual(checksum([]), 0)
+class HandedToALaterBegin(unittest.TestCase):
+    def told_by(self, *calls):
+        """What a station that begins with the block kept behind these calls says of before."""
+        octets = block_after(*calls)
+        later = begin(0, 0, octets)
+        alone = said_after(later)
+        self.assertEqual(said_after(*calls, later), alone)
+        self.assertEqual(last(*calls, keep(), later), [1])
+        self.assertEqual(alone.known, 1)
+        return Kept([alone.starts[0] - 1, *alone.starts[1:]], alone.quick, alone.doomed, alone.crumbs)
 
-    def test_what_it_tells(self):
-        crumbs = [(0, 0), (0, 0), (15, 65535), (7, 256), (7, 1), (1, 2), (3, 4), (5, 6)]
-        octets = block((1, 0x01020304, 0, MOST_STARTS), 200, 16, crumbs)
-        self.assertTrue(is_block(octets))
-        kept = read_block(octets)
-        self.assertEqual(kept.starts, [1, 0x01020304, 0, MOST_STARTS])
-        self.assertEqual((kept.quick, kept.doomed, kept.crumbs), (200, 16, crumbs))
+    def test_just_these_numbers(self):
+        running = [task(0, 0, rank=2), task(15, 0, rank=2, limit=50), tick(0)]
+        reports = [report(15, 65535, 0), report(0, 0, 1), report(15, 256, 2)]
+        many = [report(place % 2 * 15, place * 257, 3) for place in range(9)]
+        before = block((1, 2, 3, MOST_STARTS - 1), 254, 7, ((1, 2),))
+        for cause in range(4):
+            for calls in ([], running, running + reports, running + reports + [tick(60)], running + many,
+                          running + many + [tick(200)], [tick(CALM_AFTER)]):
+                for octets in ((), before):
+                    whole = [begin(0, cause, octets), *calls]
+                    self.assertEqual(self.told_by(*whole), kept_after(*whole), (cause, calls, octets))
+
+    def test_the_watch_again_and_again(self):
+        octets = ()
+        for times in range(1, 300):
+            octets = block_after(begin(0, 1, octets))
+            kept = kept_after(begin(0, 1, octets))
+            self.assertEqual((kept.starts, kept.quick), ([0, times + 1, 0, 0], min(times + 1, 255)))
+
+    def test_doubt_after_the_third_time(self):
+        octets = ()
+        doubts = []
+        for times in range(5):
+            doubts.append(said_after(begin(0, 1, octets)).doubt)
+            octets = block_after(begin(0, 1, octets))
+        self.assertEqual(doubts, [0, 0, 1, 1, 1])
+        calm = block_after(begin(0, 1, octets), tick(CALM_AFTER))
+        self.assertEqual(said_after(begin(0, 1, calm)).doubt, 0)
 
 
 class AtBegin(unittest.TestCase):
@@ -65,9 +116,6 @@ class AtBegin(unittest.TestCase):
     def test_the_last_station_is_not_before(self):
         self.assertEqual(kept_after(begin(0), begin(0, 1), begin(0, 2)).starts, [0, 0, 1, 0])
 
-    def test_refused(self):
-        self.assertEqual(kept_after(begin(0, 2), begin(0, 4, block((9, 9, 9, 9)))).starts, [0, 0, 1, 0])
-
 
 class Crumbs(unittest.TestCase):
     def crumbs_of(self, *reports):
@@ -107,34 +155,19 @@ class Doomed(unittest.TestCase):
 
     def test_both_ends(self):
         for k in (0, 15):
-            self.assertEqual(kept_after(begin(0), task(k, 0, rank=2), tick(0), tick(100), report(k, 0, 100)).doomed, k + 1)
+            calls = [begin(0), task(k, 0, rank=2), tick(0), tick(100)]
+            self.assertEqual(kept_after(*calls).doomed, k + 1)
+
+    def test_it_stays(self):
+        calls = [begin(0), task(5, 0, rank=2), task(3, 0, rank=2, limit=150), tick(0), tick(100)]
+        for more in ([report(5, 0, 100)], [halt(5, 100)], [halt(5, 100), ask(5, 100), tick(100)], [tick(150)],
+                     [report(5, 0, 100), tick(CALM_AFTER)], [halt(5, 100), halt(3, 100), tick(CALM_AFTER)]):
+            self.assertEqual(kept_after(*calls, *more).doomed, 6, more)
 
     def test_other_ranks_doom_nothing(self):
         for rank in (0, 1):
-            self.assertEqual(kept_after(begin(0), task(3, 0, rank=rank), tick(0), tick(100), tick(110), tick(300)).doomed, 0)
-
-
-class PlaceAndHeard(unittest.TestCase):
-    def place_and_heard(self, *calls):
-        found = station_after(begin(3), task(6, 5), *calls).tasks[6]
-        return found.place, found.heard
-
-    def test_at_first(self):
-        self.assertEqual(self.place_and_heard(), (0, 5))
-
-    def test_at_its_start(self):
-        self.assertEqual(self.place_and_heard(tick(8)), (0, 8))
-
-    def test_at_a_report(self):
-        self.assertEqual(self.place_and_heard(tick(8), report(6, 65535, 9)), (65535, 9))
-        self.assertEqual(self.place_and_heard(tick(8), report(6, 65535, 9), report(6, 4, 9)), (4, 9))
-
-    def test_at_a_refused_report(self):
-        self.assertEqual(self.place_and_heard(report(6, 4, 9)), (0, 5))
-        self.assertEqual(self.place_and_heard(tick(8), report(6, 65536, 9), report(7, 4, 9), report(6, 4, 7)), (0, 8))
-
-    def test_ask_leaves_them(self):
-        self.assertEqual(self.place_and_heard(ask(6, 9)), (0, 5))
+            calls = [begin(0), task(3, 0, rank=rank), tick(0), tick(100), tick(110), tick(300)]
+            self.assertEqual(kept_after(*calls).doomed, 0)
 
 
 class Calm(unittest.TestCase):
